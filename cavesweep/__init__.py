@@ -1,0 +1,1 @@
+"""Cavesweep: searchers in a cave."""

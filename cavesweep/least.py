@@ -1,0 +1,69 @@
+"""The least number of searchers, by lots of clean ways."""
+
+from cavesweep.caves import check_cave
+from cavesweep.checks import check_number
+from cavesweep.sweeps import Front
+
+
+def ways_on(cave, lot, k):
+    """Return the list of the foul ways by which it costs k or less to go on from a lot."""
+    front = Front(cave, lot)
+    clean = set(lot)
+    return [way for way in cave if way not in clean and front.cost(way) <= k]
+
+
+def lot_with(lot, way):
+    """Return a lot with one more way."""
+    return tuple(sorted([*lot, way]))
+
+
+def reached(cave, k):
+    """Return a dict from each lot to which one comes by ways that cost k or less to the last of them."""
+    last_way = {(): None}
+    todo = [()]
+    while todo:
+        lot = todo.pop()
+        for way in ways_on(cave, lot, k):
+            larger = lot_with(lot, way)
+            if larger not in last_way:
+                last_way[larger] = way
+                todo.append(larger)
+    return last_way
+
+
+def cheapest(cave):
+    """Return the least number of searchers, and the lots to which one comes with so many."""
+    k = 1
+    last_way = reached(cave, k)
+    # A cave is, as a tuple, its own lot of all ways.
+    while cave not in last_way:
+        k += 1
+        last_way = reached(cave, k)
+    return (k, last_way)
+
+
+def lots(cave, k):
+    """Return the ascending list of all lots to which one comes by ways that cost k or less."""
+    check_cave(cave)
+    check_number(k)
+    return sorted(reached(cave, k))
+
+
+def least(cave):
+    """Return the least number of searchers that a sure script uses."""
+    check_cave(cave)
+    return cheapest(cave)[0]
+
+
+def sweep(cave):
+    """Return a sweep that costs as little as a sweep can."""
+    check_cave(cave)
+    last_way = cheapest(cave)[1]
+    ways = []
+    lot = cave
+    while lot:
+        way = last_way[lot]
+        ways.append(way)
+        lot = tuple([other for other in lot if other != way])
+    ways.reverse()
+    return ways

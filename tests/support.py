@@ -1,0 +1,269 @@
+"""What several tests use: objects of every kind, checks of calls, and the rules of caves, told anew and plainly."""
+
+import copy
+import inspect
+import itertools
+import random
+import unittest
+
+STAR = ((0, 1), (0, 2), (0, 3))
+PATH = ((0, 1), (1, 2))
+RING = ((0, 1), (0, 2), (1, 2))
+ONE = ((0, 1),)
+FAR = ((0, 99),)
+PARTS = ((0, 7), (3, 9), (7, 8))
+FULL = tuple(itertools.combinations(range(4), 2))
+GREAT = tuple(itertools.combinations(range(100), 2))
+
+
+def deep(kind, levels):
+    """Nest lists, tuples or dicts so many levels deep."""
+    thing = 0
+    for _ in range(levels):
+        thing = {"a": thing} if kind is dict else kind([thing])
+    return thing
+
+
+# Objects of every kind that the document's "any object" names.
+THINGS = [
+    0, 1, 2, 9, 99, 100, -1, -99, 10 ** 39, 10 ** 40 - 1, -(10 ** 39), 1 - 10 ** 40,
+    True, False, None,
+    "", "a", "set", "lead", "none", "0", "0-1", "0-1 1-2", "set 0", "\t", "\n", "set 0\n", " ", "~!", "1" * 5000, "-" * 5000,
+    [], [0], [[]], [()], [None], ["set", 0], [("set",)], [(0, 1)], [[0, 1]], [[0], [1]], [True], ["0-1"], [0] * 20000,
+    (), (0,), (0, 1), ((),), ([],), (None,), ("set", 0), ((0, 1), None), ([0, 1],), (True, False), ("a", "b"), ((0,),),
+    (0, (0, 1)), (0,) * 20000, ((), ()) * 1000, ((0, 1), (0, 1)), ((1, 0),), ((0, 0),), ((0, 1, 2),), (((0, 1),),),
+    {}, {"a": 1}, {0: 1}, {(0, "a"): [1]}, {"index": {"b": ()}}, {(0, 1): True}, {n: n for n in range(5000)},
+    deep(list, 20), deep(tuple, 20), deep(dict, 20), [deep(tuple, 19), deep(list, 19)], (deep(dict, 19),) * 100,
+]
+
+# Things that are no caves, though some equal one, or nearly are one.
+NO_CAVES = [thing for thing in THINGS] + [
+    [(0, 1)], ([0, 1],), [[0, 1]], ((False, 1),), ((0, True),), ((0, 1), (False, 2)), ((0, 1), (1, 2, 3)), ((0, 1), (1,)),
+    ((0, 1), (1, 2), (1, 2)), ((1, 2), (0, 1)), ((0, 2), (0, 1)), ((0, 100),), ((-1, 0),), ((0, 10 ** 39),), ((5, 5),),
+    ((0, 1), (2, 1)), ((0, None),), (("0", "1"),), ((0, "1"),), ((0, (1,)),), ((0, 1), [1, 2]), ((0, 1), ()), ("0-1",),
+    {(0, 1): 1}, ((0, 1), (1, 2), None), (None, (0, 1)), GREAT[::-1], list(GREAT), GREAT + ((98, 99),), GREAT[:-1] + ((99, 98),),
+]
+
+
+def told(thing):
+    """A text that tells an object with its types: False is not told like 0, nor a list like a tuple."""
+    return repr(thing)
+
+
+def without(things, *right):
+    """The objects that are none of those, the types of all their parts considered."""
+    words = {told(one) for one in right}
+    return [thing for thing in things if told(thing) not in words]
+
+
+# Things that are no scripts of the star.
+NO_SCRIPTS = without(THINGS, []) + [
+    [("set", 4)], [("set", False)], [("set", True)], [("set", "0")], [("set", None)], [("set", (0,))], [("set", -1)],
+    [("set", 10 ** 39)], [("set",)], [("set", 0, 0)], [["set", 0]], (("set", 0),), [("Set", 0)], [("put", 0)], ["set 0"],
+    [("take", 0)], [("set", 0), ("take", 1)], [("set", 0), ("take", 0), ("take", 0)], [("set", 0), ("take", False)],
+    [("set", 0), ("take", 0, 1)], [("lead", 0, 1)], [("set", 0), ("lead", 1, 0)], [("set", 1), ("lead", 1, 2)],
+    [("set", 0), ("lead", 0, 0)], [("set", 0), ("lead", 0, True)], [("set", 0), ("lead", False, 1)],
+    [("set", 0), ("lead", 0)], [("set", 0), ("lead", 0, 1, 1)], [("set", 0), ("lead", (0, 1))], [("set", 0), ("lead", 0, 4)],
+    [("set", 0), ["lead", 0, 1]], [("set", 0), None], [None, ("set", 0)], [("set", 0), ("lead", 0, 1), ("lead", 0, 2)],
+    [("set", 0), 0], {0: ("set", 0)}, [(0, "set")], [(None, 0)], [([], 0)], [({}, 0, 1)], [("lead", [], 0)], [("set", {})],
+    [("set", 0), ("lead", 0, None)], [("set", 0), ("lead", 0, [1])], [("take", {})], [("set", 0)] * 3000 + [("take", 1)],
+]
+
+
+# Things that are no integers from 0 on.
+NO_NUMBERS = [thing for thing in THINGS if type(thing) is not int or thing < 0] + [[1], (1,), {1: 1}, "1", "0", "-1"]
+
+
+def brief(thing):
+    words = told(thing)
+    return words if len(words) < 200 else words[:200] + ".."
+
+
+class Case(unittest.TestCase):
+    """A test with checks that every call has to stand."""
+
+    def call(self, function, *arguments):
+        """The answer to a call; also that it changes nothing, answers alike by name, and anew each time."""
+        before = copy.deepcopy(arguments)
+        answer = function(*arguments)
+        kept = copy.deepcopy(answer)
+        self.spoil(answer)
+        self.assertEqual(told(arguments), told(before), function.__name__)
+        names = list(inspect.signature(function).parameters)
+        second = function(**dict(zip(names, arguments)))
+        self.assertEqual(told(second), told(kept), function.__name__)
+        self.assertEqual(told(arguments), told(before), function.__name__)
+        return second
+
+    def spoil(self, answer):
+        """Change the lists of an answer: no later answer may show it."""
+        if isinstance(answer, tuple):
+            for part in answer:
+                self.spoil(part)
+        if isinstance(answer, list):
+            for part in answer:
+                self.spoil(part)
+            answer.append("spoiled")
+            answer.reverse()
+
+    def raises(self, error, function, *arguments):
+        """That a call raises just this error, by position and by name, and changes nothing."""
+        before = told(arguments)
+        names = list(inspect.signature(function).parameters)
+        with self.assertRaises(error, msg=brief(arguments)) as caught:
+            function(*arguments)
+        self.assertIs(type(caught.exception), error, brief(arguments))
+        with self.assertRaises(error, msg=brief(arguments)):
+            function(**dict(zip(names, arguments)))
+        self.assertEqual(told(arguments), before)
+        return caught.exception
+
+    def is_bool(self, worth, answer, message=None):
+        self.assertIs(type(answer), bool, brief(message))
+        self.assertIs(answer, worth, brief(message))
+
+    def interface(self, module, **functions):
+        """That a file itself defines functions with these arguments."""
+        for name, arguments in functions.items():
+            function = getattr(module, name)
+            self.assertEqual(function.__module__, module.__name__)
+            self.assertEqual(" ".join(inspect.signature(function).parameters), arguments)
+
+
+def way_of(step):
+    return (min(step[1:]), max(step[1:]))
+
+
+class Plain:
+    """The rules of scripts, each step told by the words of the document, without any haste."""
+
+    def __init__(self, cave):
+        self.cave = cave
+        self.rooms = {room for way in cave for room in way}
+        self.searchers = []
+        self.foul = set(cave)
+
+    def can(self, step):
+        kinds = {"set": 2, "take": 2, "lead": 3}
+        if type(step) is not tuple or not step or type(step[0]) is not str or kinds.get(step[0]) != len(step):
+            return False
+        if any(type(room) is not int or room not in self.rooms for room in step[1:]):
+            return False
+        if step[0] == "set":
+            return True
+        return step[1] in self.searchers and (step[0] == "take" or way_of(step) in self.cave)
+
+    def go(self, step):
+        if step[0] == "set":
+            self.searchers.append(step[1])
+        else:
+            self.searchers.remove(step[1])
+        if step[0] == "lead":
+            self.searchers.append(step[2])
+            self.foul.discard(way_of(step))
+        while self.foul_one():
+            pass
+
+    def foul_one(self):
+        for room in self.rooms - set(self.searchers):
+            here = {way for way in self.cave if room in way}
+            if here & self.foul and here - self.foul:
+                self.foul |= here
+                return True
+        return False
+
+    def all_steps(self):
+        """All steps that can be now."""
+        steps = [("set", room) for room in self.rooms] + [("take", room) for room in self.rooms]
+        for room, other in self.cave:
+            steps += [("lead", room, other), ("lead", other, room)]
+        return [step for step in sorted(steps) if self.can(step)]
+
+
+def plain_states(cave, steps):
+    """The state ahead of each step and behind all, as (searchers, foul), each a sorted list."""
+    play = Plain(cave)
+    states = [([], sorted(cave))]
+    for step in steps:
+        assert play.can(step), step
+        play.go(step)
+        states.append((sorted(play.searchers), sorted(play.foul)))
+    return states
+
+
+def plain_border(cave, lot):
+    rooms = {room for way in cave for room in way}
+    return [room for room in rooms if len({way in lot for way in cave if room in way}) == 2]
+
+
+def plain_cost(cave, lot, way):
+    """What it costs to go on, as [6] and [36] tell it."""
+    border = plain_border(cave, lot)
+    numbers = []
+    for room in way:
+        others = [other for other in cave if room in other and other != way]
+        if room in border:
+            numbers.append(len(border) + (1 if any(other not in lot for other in others) else 0))
+        else:
+            numbers.append(len(border) + (1 if not others else 2))
+    return min(numbers)
+
+
+def plain_sweep_cost(cave, ways):
+    return max(plain_cost(cave, tuple(ways[:at]), ways[at]) for at in range(len(ways)))
+
+
+def with_way(lot, way):
+    return tuple(sorted(lot + (way,)))
+
+
+def plain_lots(cave, k):
+    """The lots to which one comes by ways that cost k or less."""
+    found = {()}
+    todo = [()]
+    for lot in todo:
+        for way in cave:
+            if way not in lot and with_way(lot, way) not in found and plain_cost(cave, lot, way) <= k:
+                found.add(with_way(lot, way))
+                todo.append(with_way(lot, way))
+    return sorted(found)
+
+
+def random_cave(chance, many, rooms=6):
+    """A cave of so many ways, or fewer, among so many rooms."""
+    names = chance.sample(range(100), rooms)
+    ways = {tuple(sorted(chance.sample(names, 2))) for _ in range(many)}
+    return tuple(sorted(ways))
+
+
+def random_steps(chance, cave, many, leads=4):
+    """A script of so many steps; the more leads, the oftener somebody is led."""
+    play = Plain(cave)
+    steps = []
+    for _ in range(many):
+        able = play.all_steps()
+        able += [step for step in able if step[0] == "lead"] * leads
+        step = chance.choice(able)
+        play.go(step)
+        steps.append(step)
+    return steps
+
+
+def seeded(number):
+    return random.Random(number)
+
+
+# Caves of many shapes with at most nine ways.
+CAVES = [
+    ONE, FAR, PATH, STAR, RING, PARTS, FULL,
+    tuple((n, n + 1) for n in range(9)),
+    tuple((0, n) for n in range(1, 10)),
+    tuple((2 * n, 2 * n + 1) for n in range(9)),
+    ((0, 1), (0, 8)) + tuple((n, n + 1) for n in range(1, 8)),
+    tuple(itertools.combinations(range(5), 2))[:9],
+    ((0, 1), (0, 2), (1, 2), (10, 11), (10, 12), (11, 12), (50, 99)),
+    ((0, 1), (0, 2), (0, 3), (1, 4), (1, 5), (2, 6), (2, 7), (3, 8), (3, 9)),
+    ((0, 3), (0, 4), (0, 5), (1, 3), (1, 4), (1, 5), (2, 3), (2, 4), (2, 5)),
+    ((0, 1), (0, 3), (1, 2), (1, 4), (2, 5), (3, 4), (4, 5)),
+    ((98, 99),), ((0, 98), (0, 99), (98, 99)),
+]
