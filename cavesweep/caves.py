@@ -1,6 +1,6 @@
 """Caves, their rooms and their parts."""
 
-from cavesweep.errors import InvalidCave
+from cavesweep.errors import InvalidCave, InvalidTree
 
 
 def is_room(thing):
@@ -62,6 +62,12 @@ def ways_by_room(cave):
     return ways_at
 
 
+def near_rooms(cave):
+    """Return a dict from each room, ascending, to the ascending list of the rooms beside it."""
+    ways_at = ways_by_room(cave)
+    return {room: [far_end(way, room) for way in ways_at[room]] for room in ways_at}
+
+
 def rooms_along(ways_at, start):
     """Return the list of the rooms to which one comes from a room, this one too."""
     seen = {start: True}
@@ -95,3 +101,9 @@ def parts_of(cave):
 def is_tree(thing):
     """Return whether any object is a tree."""
     return is_cave(thing) and len(rooms_of(thing)) == len(thing) + 1 and len(parts_of(thing)) == 1
+
+
+def check_tree(tree):
+    """Raise InvalidTree if any object is no tree."""
+    if not is_tree(tree):
+        raise InvalidTree("this is no tree")

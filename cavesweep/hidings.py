@@ -1,6 +1,7 @@
 """Hidings: where somebody can be who is never met."""
 
-from cavesweep.caves import far_end, way_between
+from cavesweep.caves import near_rooms, way_between
+from cavesweep.charts import bits_of
 from cavesweep.scripts import Play, played
 
 
@@ -22,17 +23,10 @@ def hiding(cave, steps):
     return ways
 
 
-def bits_of(rooms):
-    """Return rooms as the bits of a number."""
-    bits = 0
-    for room in rooms:
-        bits = bits | 1 << room
-    return bits
-
-
-def near_bits(ways_at):
+def near_bits(cave):
     """Return a dict from each room to the bits of the rooms beside it."""
-    return {room: bits_of([far_end(way, room) for way in ways_at[room]]) for room in ways_at}
+    near = near_rooms(cave)
+    return {room: bits_of(near[room]) for room in near}
 
 
 def comes_to(near, start, free):
@@ -54,7 +48,7 @@ def is_hiding(cave, steps, thing):
     play = Play(cave)
     if not all([play.has_way(part) for part in thing]):
         return False
-    near = near_bits(play.ways_at)
+    near = near_bits(cave)
     for at, step in enumerate(steps):
         way, goal = thing[at], thing[at + 1]
         if step[0] == "lead" and way == way_between(step[1], step[2]):

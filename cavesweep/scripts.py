@@ -4,6 +4,11 @@ from cavesweep.caves import check_cave, far_end, is_room, is_way, way_between, w
 from cavesweep.errors import InvalidScript
 
 
+def led_way(step):
+    """Return the way along which a step leads, or None."""
+    return way_between(step[1], step[2]) if step[0] == "lead" else None
+
+
 class Play:
     """A cave in which steps come one behind another."""
 
@@ -16,6 +21,8 @@ class Play:
         # For each step the ways that became foul behind it, each with a foul way beside it
         # from which somebody comes there.
         self.log = []
+        # For each step itself, whether it led along a foul way, and the greatest number ahead of it.
+        self.past = []
 
     def has_room(self, thing):
         """Return whether any object is a room of the cave."""
@@ -43,24 +50,44 @@ class Play:
             return self.has_room(step[1])
         return step[0] == "take" and self.has_searcher(step[1])
 
+    def move(self, step, by):
+        """Move a searcher as a step tells, with 1, or back again, with -1."""
+        word, room = step[0], step[1]
+        if word == "lead":
+            self.count_at[room] -= by
+            self.count_at[step[2]] += by
+        else:
+            more = by if word == "set" else -by
+            self.count_at[room] += more
+            self.inside += more
+
     def do(self, step):
         """Let a step come that can."""
-        word, room = step[0], step[1]
-        if word == "set":
-            self.count_at[room] += 1
-            self.inside += 1
-            self.greatest = max(self.greatest, self.inside)
-        else:
-            self.count_at[room] -= 1
-            if word == "take":
-                self.inside -= 1
-            else:
-                other = step[2]
-                self.count_at[other] += 1
-                self.is_foul[way_between(room, other)] = False
+        led = led_way(step)
+        self.past.append((step, led is not None and self.is_foul[led], self.greatest))
+        self.move(step, 1)
+        self.greatest = max(self.greatest, self.inside)
+        if led is not None:
+            self.is_foul[led] = False
         # Nothing comes through any room but one that a searcher left: at the others either a
         # searcher is, or all ways are alike, and both as they were.
-        self.log.append(self.spread(room))
+        self.log.append(self.spread(step[1]))
+
+    def undo(self):
+        """Take the last step back."""
+        step, led_foul, self.greatest = self.past.pop()
+        for way, _ in self.log.pop():
+            self.is_foul[way] = False
+        if led_foul:
+            self.is_foul[led_way(step)] = True
+        self.move(step, -1)
+
+    def has_fouled(self):
+        """Return whether the last step fouled a way."""
+        step, led_foul, _ = self.past[-1]
+        # A way that became foul behind the step was clean ahead of it, but for one that was led along.
+        led = led_way(step) if led_foul else None
+        return any([way != led for way, _ in self.log[-1]])
 
     def spread(self, room):
         """Let ways become foul through a room and on, and return them as the log keeps them."""
@@ -84,6 +111,21 @@ class Play:
     def foul_ways(self):
         """Return the ascending list of the foul ways."""
         return [way for way in self.is_foul if self.is_foul[way]]
+
+    def done_steps(self):
+        """Return the list of the steps that came."""
+        return [past[0] for past in self.past]
+
+    def copy(self):
+        """Return an independent play in the same state, with the same steps behind it."""
+        other = Play(tuple(self.is_foul))
+        other.is_foul = {way: self.is_foul[way] for way in self.is_foul}
+        other.count_at = {room: self.count_at[room] for room in self.count_at}
+        other.inside = self.inside
+        other.greatest = self.greatest
+        other.log = list(self.log)
+        other.past = list(self.past)
+        return other
 
 
 def played(cave, steps):

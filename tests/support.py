@@ -1,6 +1,7 @@
 """What several tests use: objects of every kind, checks of calls, and the rules of caves, told anew and plainly."""
 
 import copy
+import doctest
 import inspect
 import itertools
 import random
@@ -74,6 +75,16 @@ NO_SCRIPTS = without(THINGS, []) + [
 NO_NUMBERS = [thing for thing in THINGS if type(thing) is not int or thing < 0] + [[1], (1,), {1: 1}, "1", "0", "-1"]
 
 
+# Things that are no integers from 1 on.
+NO_POSITIVES = NO_NUMBERS + [0]
+
+# Things that are no trees: a ring beside a way has one room more than ways, too.
+NO_TREES = NO_CAVES + [
+    RING, PARTS, FULL, GREAT, RING + ((3, 4),), ((0, 1), (2, 3)), ((0, 1), (0, 2), (1, 3), (2, 3)), ((0, 1), (0, 2), (1, 2), (2, 3)),
+    ((0, 1), (1, 2), (3, 4)), ((0, 1), (0, 2), (1, 2), (50, 51), (50, 52), (52, 53), (98, 99)),
+]
+
+
 def brief(thing):
     words = told(thing)
     return words if len(words) < 200 else words[:200] + ".."
@@ -121,6 +132,14 @@ class Case(unittest.TestCase):
     def is_bool(self, worth, answer, message=None):
         self.assertIs(type(answer), bool, brief(message))
         self.assertIs(answer, worth, brief(message))
+
+    def has_examples(self, module, words):
+        """That a session, told as in the document, answers as it says."""
+        finder = doctest.DocTestParser()
+        test = finder.get_doctest(words, {}, module.__name__, None, 0)
+        outcome = doctest.DocTestRunner(verbose=False).run(test)
+        self.assertGreater(outcome.attempted, 0)
+        self.assertEqual(outcome.failed, 0)
 
     def interface(self, module, **functions):
         """That a file itself defines functions with these arguments."""
@@ -213,6 +232,16 @@ def plain_sweep_cost(cave, ways):
     return max(plain_cost(cave, tuple(ways[:at]), ways[at]) for at in range(len(ways)))
 
 
+def plain_enough(cave, k):
+    """Whether k searchers are enough, by the lots to which one comes; none are needed where no way is."""
+    return not cave or tuple(cave) in plain_lots(cave, k)
+
+
+def plain_least(cave):
+    """The least cost of a sweep."""
+    return next(k for k in range(20) if plain_enough(cave, k))
+
+
 def with_way(lot, way):
     return tuple(sorted(lot + (way,)))
 
@@ -247,6 +276,90 @@ def random_steps(chance, cave, many, leads=4):
         play.go(step)
         steps.append(step)
     return steps
+
+
+def random_tree(chance, many, back=100):
+    """A tree of so many ways; the less it looks back, the longer its paths."""
+    names = chance.sample(range(100), many + 1)
+    ways = [(names[chance.randrange(max(0, at - back), at)], names[at]) for at in range(1, many + 1)]
+    return tuple(sorted(tuple(sorted(way)) for way in ways))
+
+
+def plain_branch(tree, room, other):
+    """The branch of a tree at a room by a neighbour: the way to it and all ways behind it."""
+    ways = {way_of(("lead", room, other))}
+    rooms = {other}
+    while True:
+        more = {way for way in tree if set(way) & rooms}
+        if more <= ways:
+            return tuple(sorted(ways))
+        ways |= more
+        rooms = {end for way in ways for end in way} - {room}
+
+
+def plain_neighbours(tree, room):
+    return [other for other in range(100) if other != room and way_of(("lead", room, other)) in tree]
+
+
+def plain_label(labels):
+    """The label that is had from others, word by word as [9] tells."""
+    if not labels:
+        return (1,)
+    k = max(label[0] for label in labels)
+    first = [label for label in labels if label[0] == k]
+    if len(first) >= 3 or (len(first) == 2 and k == 1):
+        return (k + 1,)
+    if len(first) == 2:
+        return (k + 1,) if any(len(label) > 1 for label in first) else (k, 1)
+    if len(first[0]) == 1:
+        return (k,)
+    rest = plain_label(without_first(labels, k))
+    return (k + 1,) if rest[0] >= k else (k,) + rest
+
+
+def plain_top(labels):
+    k = max(label[0] for label in labels)
+    first = [label for label in labels if label[0] == k]
+    if len(first) >= 3 or (len(first) == 2 and any(len(label) > 1 for label in first)):
+        return k + 1
+    if len(first) == 1 and len(first[0]) > 1 and plain_top(without_first(labels, k)) >= k:
+        return k + 1
+    return k
+
+
+def without_first(labels, k):
+    return [label[1:] if label[0] == k else label for label in labels]
+
+
+def path_of(many):
+    return tuple((room, room + 1) for room in range(many))
+
+
+def star_of(many):
+    return tuple((0, room) for room in range(1, many + 1))
+
+
+def nested_threes(k):
+    """A least tree of the number k: three least ones of k - 1, each with an end at one room."""
+    ways = []
+    rooms = iter(range(100))
+
+    def grow(room, other, left):
+        if left == 1:
+            ways.append((min(room, other), max(room, other)))
+            return
+        middle = next(rooms)
+        for end in (room, other, next(rooms)):
+            grow(end, middle, left - 1)
+
+    grow(next(rooms), next(rooms), k)
+    return tuple(sorted(ways))
+
+
+def without_ends(tree):
+    """The trees that are left if a way is left out that leads to an end of the tree."""
+    ends = [room for room in range(100) if sum(room in way for way in tree) == 1]
+    return [tuple(way for way in tree if end not in way) for end in ends if len(tree) > 1]
 
 
 def seeded(number):

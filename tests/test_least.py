@@ -8,12 +8,7 @@ from cavesweep.errors import InvalidCave, InvalidNumber
 from cavesweep.least import least, lots, sweep
 from cavesweep.sweeps import cost_of
 from support import CAVES, FULL, GREAT, NO_CAVES, NO_NUMBERS, ONE, PATH, RING, STAR
-from support import Case, Plain, plain_lots, plain_sweep_cost, random_cave, seeded
-
-
-def plain_least(cave):
-    """The least cost of a sweep, by the lots to which one comes."""
-    return next(k for k in range(1, 20) if cave in plain_lots(cave, k))
+from support import Case, Plain, plain_least, plain_lots, plain_sweep_cost, random_cave, seeded
 
 
 def enough(cave, k):
