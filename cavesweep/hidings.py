@@ -1,7 +1,7 @@
 """Hidings: where somebody can be who is never met."""
 
-from cavesweep.caves import near_rooms, way_between
-from cavesweep.charts import bits_of
+from cavesweep.caves import way_between
+from cavesweep.charts import bits_of, near_bits
 from cavesweep.scripts import Play, played
 
 
@@ -21,12 +21,6 @@ def hiding(cave, steps):
         ways.append(here)
     ways.reverse()
     return ways
-
-
-def near_bits(cave):
-    """Return a dict from each room to the bits of the rooms beside it."""
-    near = near_rooms(cave)
-    return {room: bits_of(near[room]) for room in near}
 
 
 def comes_to(near, start, free):

@@ -10,9 +10,14 @@ def led_way(step):
 
 
 class Play:
-    """A cave in which steps come one behind another."""
+    """A cave in which steps come one behind another.
 
-    def __init__(self, cave):
+    The manner tells what scripts they are of: "plain", "lamps" (nobody is led, and a way with
+    searchers at both its ends is clean) or "mixed" (searchers are led, and such a way is clean).
+    """
+
+    def __init__(self, cave, manner="plain"):
+        self.manner = manner
         self.ways_at = ways_by_room(cave)
         self.is_foul = {way: True for way in cave}
         self.count_at = {room: 0 for room in self.ways_at}
@@ -21,7 +26,7 @@ class Play:
         # For each step the ways that became foul behind it, each with a foul way beside it
         # from which somebody comes there.
         self.log = []
-        # For each step itself, whether it led along a foul way, and the greatest number ahead of it.
+        # For each step itself, the foul ways that it made clean, and the greatest number ahead of it.
         self.past = []
 
     def has_room(self, thing):
@@ -45,7 +50,7 @@ class Play:
         if type(step) is not tuple or len(step) not in (2, 3):
             return False
         if len(step) == 3:
-            return step[0] == "lead" and self.can_lead(step[1], step[2])
+            return self.manner != "lamps" and step[0] == "lead" and self.can_lead(step[1], step[2])
         if step[0] == "set":
             return self.has_room(step[1])
         return step[0] == "take" and self.has_searcher(step[1])
@@ -61,33 +66,46 @@ class Play:
             self.count_at[room] += more
             self.inside += more
 
+    def shines_on(self, way):
+        """Return whether a way is clean because searchers are at both its ends."""
+        return self.manner != "plain" and self.count_at[way[0]] > 0 and self.count_at[way[1]] > 0
+
+    def made_clean(self, step):
+        """Return the list of the foul ways that a step makes clean whose searcher is moved already."""
+        led = led_way(step)
+        # Both end where the searcher is now: the way that was led along, and a way newly lit.
+        return [way for way in self.ways_at[step[-1]] if self.is_foul[way] and (way == led or self.shines_on(way))]
+
     def do(self, step):
         """Let a step come that can."""
-        led = led_way(step)
-        self.past.append((step, led is not None and self.is_foul[led], self.greatest))
+        greatest = self.greatest
         self.move(step, 1)
-        self.greatest = max(self.greatest, self.inside)
-        if led is not None:
-            self.is_foul[led] = False
+        self.greatest = max(greatest, self.inside)
+        cleaned = self.made_clean(step)
+        for way in cleaned:
+            self.is_foul[way] = False
+        self.past.append((step, cleaned, greatest))
         # Nothing comes through any room but one that a searcher left: at the others either a
         # searcher is, or all ways are alike, and both as they were.
         self.log.append(self.spread(step[1]))
 
     def undo(self):
-        """Take the last step back."""
-        step, led_foul, self.greatest = self.past.pop()
+        """Take the last step back, and return it."""
+        step, cleaned, self.greatest = self.past.pop()
         for way, _ in self.log.pop():
             self.is_foul[way] = False
-        if led_foul:
-            self.is_foul[led_way(step)] = True
+        for way in cleaned:
+            self.is_foul[way] = True
         self.move(step, -1)
+        return step
 
-    def has_fouled(self):
-        """Return whether the last step fouled a way."""
-        step, led_foul, _ = self.past[-1]
-        # A way that became foul behind the step was clean ahead of it, but for one that was led along.
-        led = led_way(step) if led_foul else None
-        return any([way != led for way, _ in self.log[-1]])
+    def first_fouling(self):
+        """Return the index of the first step that fouled a way, or None."""
+        for at, (_, cleaned, _) in enumerate(self.past):
+            # A way that became foul behind a step was clean ahead of it, unless the step had made it clean.
+            if any([became[0] not in cleaned for became in self.log[at]]):
+                return at
+        return None
 
     def spread(self, room):
         """Let ways become foul through a room and on, and return them as the log keeps them."""
@@ -112,13 +130,30 @@ class Play:
         """Return the ascending list of the foul ways."""
         return [way for way in self.is_foul if self.is_foul[way]]
 
+    def border_rooms(self):
+        """Return the ascending list of the rooms at which both clean and foul ways end."""
+        return [room for room in self.ways_at if self.is_between(room)]
+
+    def is_between(self, room):
+        """Return whether both clean and foul ways end at a room."""
+        foul = [way for way in self.ways_at[room] if self.is_foul[way]]
+        return 0 < len(foul) < len(self.ways_at[room])
+
+    def left(self):
+        """Return a tuple (searchers, foul): the rooms where searchers are and the foul ways."""
+        return (self.searcher_rooms(), self.foul_ways())
+
+    def is_clean(self):
+        """Return whether no way is foul."""
+        return len(self.foul_ways()) == 0
+
     def done_steps(self):
         """Return the list of the steps that came."""
         return [past[0] for past in self.past]
 
     def copy(self):
         """Return an independent play in the same state, with the same steps behind it."""
-        other = Play(tuple(self.is_foul))
+        other = Play(tuple(self.is_foul), self.manner)
         other.is_foul = {way: self.is_foul[way] for way in self.is_foul}
         other.count_at = {room: self.count_at[room] for room in self.count_at}
         other.inside = self.inside
@@ -128,16 +163,23 @@ class Play:
         return other
 
 
-def played(cave, steps):
-    """Return a cave behind a script; raise InvalidCave, InvalidScript, for any objects."""
-    check_cave(cave)
+def let_come(play, steps):
+    """Return whether any object is a list of steps that can come, one by one; let those come that can."""
     if type(steps) is not list:
-        raise InvalidScript("a script is a list")
-    play = Play(cave)
+        return False
     for step in steps:
         if not play.can_do(step):
-            raise InvalidScript("a step can not be where it stands")
+            return False
         play.do(step)
+    return True
+
+
+def played(cave, steps, manner="plain"):
+    """Return a cave behind a script; raise InvalidCave, InvalidScript, for any objects."""
+    check_cave(cave)
+    play = Play(cave, manner)
+    if not let_come(play, steps):
+        raise InvalidScript("this is no such script of the cave")
     return play
 
 
@@ -148,8 +190,7 @@ def can_be(cave, steps, step):
 
 def left_by(cave, steps):
     """Return a tuple (searchers, foul): the rooms where searchers are and the foul ways behind a script."""
-    play = played(cave, steps)
-    return (play.searcher_rooms(), play.foul_ways())
+    return played(cave, steps).left()
 
 
 def uses(cave, steps):
@@ -159,7 +200,7 @@ def uses(cave, steps):
 
 def is_sure(cave, steps):
     """Return whether no way is foul behind a script."""
-    return len(played(cave, steps).foul_ways()) == 0
+    return played(cave, steps).is_clean()
 
 
 def jumps(cave, steps):

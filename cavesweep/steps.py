@@ -70,10 +70,4 @@ def alike(cave, steps, other):
 
 def first_foul(cave, steps):
     """Return the index of the first step that fouls a way, or None."""
-    played(cave, steps)
-    play = Play(cave)
-    for at, step in enumerate(steps):
-        play.do(step)
-        if play.has_fouled():
-            return at
-    return None
+    return played(cave, steps).first_fouling()

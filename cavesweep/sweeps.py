@@ -45,6 +45,14 @@ class Front:
         """Return what it costs to go on by a foul way."""
         return self.cost_from(self.beginning(way))
 
+    def lit_cost(self, way):
+        """Return how many searchers are in the border and at both ends of a foul way, one at each room."""
+        return self.width + len([room for room in way if not self.in_border(room)])
+
+    def mixed_cost(self, way):
+        """Return what it costs to go on by a foul way in either manner."""
+        return min(self.cost(way), self.lit_cost(way))
+
 
 def known_ways(cave):
     """Return a dict whose keys are the ways of a cave."""
@@ -70,14 +78,19 @@ def check_sweep(cave, ways):
         raise InvalidSweep("this is no sweep of the cave")
 
 
-def cost_by(cave, lot, way):
-    """Return what it costs to go on from a lot by a foul way."""
+def front_ahead(cave, lot, way):
+    """Return a lot of a cave ahead of a foul way; raise InvalidCave, InvalidLot, InvalidWay, for any objects."""
     check_cave(cave)
     if not is_lot(known_ways(cave), lot):
         raise InvalidLot("this is no lot of the cave")
     if not is_way(way) or way not in cave or way in lot:
         raise InvalidWay("this is no foul way")
-    return Front(cave, lot).cost(way)
+    return Front(cave, lot)
+
+
+def cost_by(cave, lot, way):
+    """Return what it costs to go on from a lot by a foul way."""
+    return front_ahead(cave, lot, way).cost(way)
 
 
 def cost_of(cave, ways):

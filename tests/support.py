@@ -90,6 +90,12 @@ def brief(thing):
     return words if len(words) < 200 else words[:200] + ".."
 
 
+def by_names(function, arguments):
+    """Arguments by the names of their parameters, the last one first."""
+    names = list(inspect.signature(function).parameters)
+    return dict(list(zip(names, arguments))[::-1])
+
+
 class Case(unittest.TestCase):
     """A test with checks that every call has to stand."""
 
@@ -100,8 +106,7 @@ class Case(unittest.TestCase):
         kept = copy.deepcopy(answer)
         self.spoil(answer)
         self.assertEqual(told(arguments), told(before), function.__name__)
-        names = list(inspect.signature(function).parameters)
-        second = function(**dict(zip(names, arguments)))
+        second = function(**by_names(function, arguments))
         self.assertEqual(told(second), told(kept), function.__name__)
         self.assertEqual(told(arguments), told(before), function.__name__)
         return second
@@ -120,12 +125,11 @@ class Case(unittest.TestCase):
     def raises(self, error, function, *arguments):
         """That a call raises just this error, by position and by name, and changes nothing."""
         before = told(arguments)
-        names = list(inspect.signature(function).parameters)
         with self.assertRaises(error, msg=brief(arguments)) as caught:
             function(*arguments)
         self.assertIs(type(caught.exception), error, brief(arguments))
         with self.assertRaises(error, msg=brief(arguments)):
-            function(**dict(zip(names, arguments)))
+            function(**by_names(function, arguments))
         self.assertEqual(told(arguments), before)
         return caught.exception
 
@@ -154,10 +158,14 @@ def way_of(step):
 
 
 class Plain:
-    """The rules of scripts, each step told by the words of the document, without any haste."""
+    """The rules of scripts, each step told by the words of the document, without any haste.
 
-    def __init__(self, cave):
+    The manner is "plain" for those of [4], "lamps" for those of [28], "mixed" for those of [32].
+    """
+
+    def __init__(self, cave, manner="plain"):
         self.cave = cave
+        self.manner = manner
         self.rooms = {room for way in cave for room in way}
         self.searchers = []
         self.foul = set(cave)
@@ -170,6 +178,8 @@ class Plain:
             return False
         if step[0] == "set":
             return True
+        if step[0] == "lead" and self.manner == "lamps":
+            return False
         return step[1] in self.searchers and (step[0] == "take" or way_of(step) in self.cave)
 
     def go(self, step):
@@ -180,6 +190,8 @@ class Plain:
         if step[0] == "lead":
             self.searchers.append(step[2])
             self.foul.discard(way_of(step))
+        if self.manner != "plain":
+            self.foul -= {way for way in self.cave if set(way) <= set(self.searchers)}
         while self.foul_one():
             pass
 
@@ -199,15 +211,64 @@ class Plain:
         return [step for step in sorted(steps) if self.can(step)]
 
 
-def plain_states(cave, steps):
+def plain_states(cave, steps, manner="plain"):
     """The state ahead of each step and behind all, as (searchers, foul), each a sorted list."""
-    play = Plain(cave)
+    play = Plain(cave, manner)
     states = [([], sorted(cave))]
     for step in steps:
         assert play.can(step), step
         play.go(step)
         states.append((sorted(play.searchers), sorted(play.foul)))
     return states
+
+
+def at_state(cave, searchers, foul, manner="plain"):
+    """A play in a state to which it did not come."""
+    play = Plain(cave, manner)
+    play.searchers, play.foul = list(searchers), set(foul)
+    return play
+
+
+def is_plain_script(cave, steps, manner="plain"):
+    """Whether a list of steps is a script."""
+    play = Plain(cave, manner)
+    for step in steps:
+        if not play.can(step):
+            return False
+        play.go(step)
+    return True
+
+
+def plain_first_foul(cave, steps, manner="plain"):
+    """The index of the first step that fouls a way, or None."""
+    states = plain_states(cave, steps, manner)
+    for at in range(len(steps)):
+        if set(states[at + 1][1]) - set(states[at][1]):
+            return at
+    return None
+
+
+def plain_uses(cave, steps, manner="plain"):
+    return max(len(searchers) for searchers, _ in plain_states(cave, steps, manner))
+
+
+def plain_sure_with(cave, k, manner):
+    """Whether some script with k searchers at most is sure, by going through all states."""
+    found = {((), tuple(cave))}
+    todo = list(found)
+    for searchers, foul in todo:
+        for step in at_state(cave, searchers, foul, manner).all_steps():
+            play = at_state(cave, searchers, foul, manner)
+            play.go(step)
+            if len(play.searchers) > k:
+                continue
+            if not play.foul:
+                return True
+            state = (tuple(sorted(play.searchers)), tuple(sorted(play.foul)))
+            if state not in found:
+                found.add(state)
+                todo.append(state)
+    return False
 
 
 def plain_border(cave, lot):
@@ -258,6 +319,32 @@ def plain_lots(cave, k):
     return sorted(found)
 
 
+def rooms_in(cave):
+    return sorted({room for way in cave for room in way})
+
+
+def plain_held(cave, lot):
+    """The rooms of a lot at which a way ends that leads to none of them."""
+    return [room for room in sorted(lot) if any(room in way and not set(way) <= set(lot) for way in cave)]
+
+
+def plain_breadth(cave, order):
+    return max(len(plain_held(cave, order[:number])) for number in range(len(order) + 1))
+
+
+def plain_room_lots(cave, k):
+    """The lots of rooms to which one comes, room by room, with k held at most."""
+    found = {()}
+    todo = [()]
+    for lot in todo:
+        for room in rooms_in(cave):
+            larger = tuple(sorted(set(lot) | {room}))
+            if larger not in found and len(plain_held(cave, larger)) <= k:
+                found.add(larger)
+                todo.append(larger)
+    return sorted(found)
+
+
 def random_cave(chance, many, rooms=6):
     """A cave of so many ways, or fewer, among so many rooms."""
     names = chance.sample(range(100), rooms)
@@ -265,9 +352,9 @@ def random_cave(chance, many, rooms=6):
     return tuple(sorted(ways))
 
 
-def random_steps(chance, cave, many, leads=4):
+def random_steps(chance, cave, many, leads=4, manner="plain"):
     """A script of so many steps; the more leads, the oftener somebody is led."""
-    play = Plain(cave)
+    play = Plain(cave, manner)
     steps = []
     for _ in range(many):
         able = play.all_steps()
@@ -360,6 +447,10 @@ def without_ends(tree):
     """The trees that are left if a way is left out that leads to an end of the tree."""
     ends = [room for room in range(100) if sum(room in way for way in tree) == 1]
     return [tuple(way for way in tree if end not in way) for end in ends if len(tree) > 1]
+
+
+def random_order(chance, cave):
+    return chance.sample(rooms_in(cave), len(rooms_in(cave)))
 
 
 def seeded(number):

@@ -10,7 +10,7 @@ from cavesweep.least import least
 from cavesweep.scripts import is_sure, jumps, uses
 from cavesweep.shortest import least_script
 from support import CAVES, FULL, GREAT, NO_CAVES, NO_NUMBERS, ONE, PATH, RING, STAR, THINGS
-from support import Case, Plain, plain_states
+from support import Case, at_state, plain_states
 
 EXAMPLES = """
 >>> from cavesweep.shortest import least_script
@@ -55,12 +55,6 @@ def plain_fewest(cave, k, may_jump):
         if not found:
             return None
         level = found
-
-
-def at_state(cave, searchers, foul):
-    play = Plain(cave)
-    play.searchers, play.foul = list(searchers), set(foul)
-    return play
 
 
 class Shortest(Case):

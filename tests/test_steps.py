@@ -8,7 +8,7 @@ from cavesweep.scripts import left_by
 from cavesweep.steps import alike, first_foul, needless
 from cavesweep.sweeps import script_of
 from support import CAVES, GREAT, NO_CAVES, NO_SCRIPTS, ONE, PATH, RING, STAR
-from support import Case, Plain, path_of, plain_states, random_cave, random_steps, seeded
+from support import Case, Plain, path_of, plain_first_foul, plain_states, random_cave, random_steps, seeded
 
 EXAMPLES = """
 >>> from cavesweep.steps import alike, first_foul, needless
@@ -40,14 +40,6 @@ def plain_needless(cave, steps):
         if left is not None and left <= many:
             found.append(at)
     return found
-
-
-def plain_first_foul(cave, steps):
-    states = plain_states(cave, steps)
-    for at in range(len(steps)):
-        if set(states[at + 1][1]) - set(states[at][1]):
-            return at
-    return None
 
 
 def some_scripts(seed, many, most):

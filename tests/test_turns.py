@@ -3,24 +3,36 @@
 import copy
 import unittest
 
+from cavesweep.bags import is_row, order_by, plain_row, row_of, size_of
+from cavesweep.bars import bar, is_bar
 from cavesweep.caves import is_cave, is_tree, parts_of, rooms_of
 from cavesweep.errors import CaveError
+from cavesweep.gates import best_gates, comes_in, least_from, script_from
 from cavesweep.grown import grown_cave, grown_label, grown_number, grown_ways, is_book, least_depth
 from cavesweep.hidings import hiding, is_hiding
 from cavesweep.labels import branch_label, is_label, joined, number, top
+from cavesweep.lamps import can_light, first_dark, is_lit, lamps_used, lit_by
 from cavesweep.least import least, lots, sweep
 from cavesweep.live import Live
+from cavesweep.mixed import can_mix, is_mixed, least_mixed, mixed_by, mixed_cost_by, mixed_script, mixed_used
 from cavesweep.nests import is_nest, nest
 from cavesweep.papers import is_paper, paper
+from cavesweep.roomlots import is_room_paper, room_lots, room_paper
+from cavesweep.rooms import best_order, breadth, held_rooms, lamps_of, least_breadth
 from cavesweep.scripts import can_be, is_sure, jumps, left_by, uses
 from cavesweep.shell import Shell
 from cavesweep.shortest import least_script
 from cavesweep.shut import least_shut
+from cavesweep.smaller import drawn, is_tight, numbers, trebled, without_way
 from cavesweep.steps import alike, first_foul, needless
 from cavesweep.sweeps import cost_by, cost_of, script_of
 from cavesweep.texts import format_cave, format_script, parse_cave, parse_script
+from cavesweep.watches import Watch
 from support import FULL, PARTS, PATH, RING, STAR
-from support import Case, random_steps, random_tree, seeded, told
+from support import Case, random_order, random_steps, random_tree, seeded, told
+from test_lamps import drawn_steps
+from test_live import come
+from test_watches import LEFT_BY, Model
 
 BOOK = (("leaf", ()), ("three", ("three", "three", "three")), ("two", ("two", "leaf", "two")))
 
@@ -42,6 +54,23 @@ def steps_calls(cave, steps, other):
         (is_hiding, cave, steps, [cave[0]] * (len(steps) + 1)), (parse_script, cave, format_script(cave, other)), (needless, cave, steps + [0])]
 
 
+def rooms_calls(chance, cave):
+    """Calls of the functions of lamps, rooms, bags, and what is beside them."""
+    order, lit, mixed = random_order(chance, cave), drawn_steps(chance, cave, 9), random_steps(chance, cave, 9, 4, "mixed")
+    row = row_of(cave, order)
+    functions = (least_breadth, best_order, least_mixed, best_gates, trebled, numbers)
+    return [(function, cave) for function in functions] + [
+        (function, cave, lit) for function in (lit_by, lamps_used, is_lit, first_dark)] + [
+        (function, cave, mixed) for function in (mixed_by, mixed_used, is_mixed, lit_by)] + [
+        (function, cave, order) for function in (breadth, lamps_of, row_of, size_of)] + [
+        (function, cave, row) for function in (is_row, size_of, order_by, plain_row, breadth)] + [
+        (function, cave, k) for function in (bar, room_lots, room_paper, mixed_script, is_tight) for k in (0, 1, 2, -1)] + [
+        (can_light, cave, lit, ("take", order[0])), (can_mix, cave, mixed, ("lead", *cave[0])), (held_rooms, cave, order, 2),
+        (is_bar, cave, 1, [((), cave)]), (is_bar, cave, 1, bar(cave, 1)), (is_room_paper, cave, 1, room_paper(cave, 1)),
+        (mixed_cost_by, cave, cave[:1], cave[-1]), (comes_in, cave, order[0], mixed), (least_from, cave, order[0]), (least_from, cave, True),
+        (script_from, cave, order[0], 2), (script_from, cave, order[0], 1), (without_way, cave, cave[-1]), (drawn, cave, cave[0]), (drawn, cave, 0)]
+
+
 def all_calls(chance):
     calls = [
         (is_label, (3, 1)), (joined, []), (joined, [(3, 1), (2,), (2,)]), (top, [(2, 1), (2,)]), (top, []), (is_book, BOOK), (is_book, [BOOK])]
@@ -49,7 +78,7 @@ def all_calls(chance):
         calls += [(function, BOOK, name, depth) for function in (grown_label, grown_number, grown_ways, grown_cave) for depth in (0, 2, 4, -1)]
         calls += [(least_depth, BOOK, name, k) for k in (1, 4, 0)]
     for cave in [PATH, STAR, RING, PARTS, FULL[:4], random_tree(chance, 4)]:
-        calls += caves_calls(cave)
+        calls += caves_calls(cave) + rooms_calls(chance, cave)
         for _ in range(3):
             calls += steps_calls(cave, random_steps(chance, cave, 9), random_steps(chance, cave, 4))
     return calls
@@ -96,6 +125,39 @@ class Turns(Case):
         self.assertEqual((live.searchers, live.foul), left_by(STAR, steps))
         self.assertEqual(shell.run("searchers main"), " ".join(map(str, live.searchers)) or "none")
         for rows in (live.steps, live.searchers, live.foul):
+            self.spoil(rows)
+
+    def test_questions_over_two_caves_and_watches_beside_them(self):
+        chance = seeded(4)
+        caves = [RING + ((2, 3),), PARTS]
+        calls = [call for cave in caves for call in rooms_calls(chance, cave) + caves_calls(cave)]
+        first = [told(answer(call)) for call in calls]
+        pairs = [(Watch(cave, kind), Model(cave, kind)) for cave in caves for kind in LEFT_BY]
+        for _ in range(5):
+            for at in chance.sample(range(len(calls)), len(calls)):
+                found = answer(calls[at])
+                self.assertEqual(told(found), first[at], calls[at])
+                self.spoil(found)
+                self.watch_on(chance, *chance.choice(pairs))
+        for watch, model in pairs:
+            self.assertEqual(watch.steps, model.steps)
+            self.assertGreater(len(model.steps), 3)
+
+    def watch_on(self, chance, watch, model):
+        """A call of a watch, which is held against the functions; its lists are changed."""
+        if model.steps and chance.random() < 0.3:
+            watch.undo()
+            model.undone.append(model.steps.pop())
+        elif model.undone and chance.random() < 0.4:
+            watch.redo()
+            model.steps.append(model.undone.pop())
+        else:
+            step = chance.choice(model.able())
+            come(watch, step)
+            model.steps.append(step)
+            model.undone = []
+        self.assertEqual(told((watch.searchers, watch.foul)), told(LEFT_BY[watch.kind](model.cave, model.steps)))
+        for rows in (watch.steps, watch.searchers, watch.foul, watch.needed):
             self.spoil(rows)
 
     def test_what_was_passed_may_change_later(self):
