@@ -38,16 +38,6 @@ def least_mixed(cave):
     return cheapest(cave, True)[0]
 
 
-def lit_steps_by(front, way):
-    """Return steps that make the next way of a sweep clean from both its ends, and put it into the lot.
-
-    Ahead of them and behind them one searcher is at each room of the border, and none elsewhere.
-    """
-    steps = [("set", room) for room in way if not front.in_border(room)]
-    front.go_on(way)
-    return steps + [("take", room) for room in way if not front.in_border(room)]
-
-
 def mixed_script(cave, k):
     """Return a sure mixed script that uses k searchers at most, or None."""
     check_cave(cave)
@@ -60,7 +50,8 @@ def mixed_script(cave, k):
     # What other ways are lit besides is no harm: with less foul ahead of a step less is foul behind it.
     for way in sweep_by(cave, last_way):
         if front.lit_cost(way) < front.cost(way):
-            steps.extend(lit_steps_by(front, way))
+            # Both its ends are in the border then, where searchers are and are needed on: it is clean by them.
+            front.go_on(way)
         else:
             steps.extend(steps_by(front, way))
     return steps
